@@ -128,7 +128,7 @@ func (s *Server) write(m wire.Msg, now int) []wire.Msg {
 
 // release takes a holder's word that it doesn't lean on an object any more. Of another epoch, or version, it says nothing: what was lent since then is leaned on.
 func (s *Server) release(m wire.Msg, now int) []wire.Msg {
-	if len(s.waits[m.Object]) == 0 || m.Epoch != s.epoch || m.Version != s.values[m.Object].Version+1 {
+	if m.Epoch != s.epoch || m.Version != s.values[m.Object].Version+1 {
 		return nil
 	}
 	s.leases.Drop(Seat(m.Client), m.Object)
